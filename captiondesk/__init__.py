@@ -1,0 +1,1 @@
+"""A desk for the captions of a film."""
