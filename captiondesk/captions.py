@@ -8,20 +8,22 @@ ADD = 1
 DROP = 2
 MAP = 3
 FIT = 4
+BACK = 5
+TELL = 6
+SHOWN = 7
+
+# How many numbers each call has, by its number, but for those of its row.
+PLAIN_LENGTHS = (2, 4, 2, 2, 3, 1, 2, 2, 1)
 
 
 def call_length(calls, start):
     """How many numbers the call has that begins there."""
     kind = calls[start]
-    if kind == LOAD or kind == MAP:
-        return 2 + calls[start + 1]
-    if kind == ADD:
-        return 4 + calls[start + 3]
-    if kind == DROP:
-        return 2
-    if kind == FIT:
-        return 3
-    raise NotImplementedError("there is no such call yet")
+    length = PLAIN_LENGTHS[kind]
+    if kind == LOAD or kind == ADD or kind == MAP:
+        # How many numbers the row has is told just ahead of it.
+        length += calls[start + length - 1]
+    return length
 
 
 def answer(desk, call):
@@ -35,7 +37,16 @@ def answer(desk, call):
         return [desk.drop(call[1])]
     if kind == MAP:
         return [desk.move(pair_up(call[2:]))]
-    return [desk.fit(call[1], call[2])]
+    if kind == FIT:
+        return [desk.fit(call[1], call[2])]
+    if kind == BACK:
+        return [desk.back()]
+    if kind == TELL:
+        return desk.tell(call[1])
+    if kind == SHOWN:
+        return desk.shown(call[1])
+    # No other call is left than 8, clash.
+    return [desk.clash()]
 
 
 def answers(calls):

@@ -3,11 +3,12 @@
 from captiondesk.anchors import are_anchors, goes_to
 from captiondesk.fitting import fit_times
 from captiondesk.limits import MOST_CAPTIONS, TIME_END
-from captiondesk.lines import can_say, read_text
+from captiondesk.lines import can_say, read_text, write_said, write_text
 
 NOT_THERE = -2
 NO_ROOM = -12
 NOT_ALLOWED = -22
+TOO_LONG = -28
 CANNOT_BE = -33
 WRONG_LINE = -1000
 
@@ -30,8 +31,21 @@ def may_be_shown(caption):
     return 0 <= caption[0] and caption[0] < caption[1] and caption[1] < TIME_END
 
 
+def is_shown(caption, at):
+    """Whether a caption is shown at that time."""
+    return caption[0] <= at and at < caption[1]
+
+
+def with_count(text):
+    """How many bytes a text has, then these."""
+    return [len(text)] + text
+
+
 class Desk:
-    """Each call answers a number; one below 0 is a refusal, and then nothing has changed."""
+    """Each call answers a number, but tell and shown a list: a number, then bytes.
+
+    A number below 0 is a refusal, and then nothing has changed.
+    """
 
     def __init__(self):
         self.captions = []
@@ -92,3 +106,27 @@ class Desk:
         # Each fitted caption begins later than the one before, so they are in order as they stand.
         self.take_step([(times[2 * k], times[2 * k + 1], caption[2]) for k, caption in enumerate(self.captions)])
         return fitted[1]
+
+    def back(self):
+        if len(self.earlier) == 0:
+            return NOT_THERE
+        self.captions = self.earlier[-1]
+        self.earlier = self.earlier[:-1]
+        return len(self.earlier)
+
+    def tell(self, most):
+        text = write_text(self.captions)
+        if len(text) > most:
+            return [TOO_LONG]
+        return with_count(text)
+
+    def shown(self, at):
+        return with_count(write_said([caption for caption in self.captions if is_shown(caption, at)]))
+
+    def clash(self):
+        all_gone = 0
+        for k, caption in enumerate(self.captions):
+            if caption[0] < all_gone:
+                return k
+            all_gone = max(all_gone, caption[1])
+        return NOT_THERE

@@ -1,4 +1,4 @@
-"""Captions as the lines of a text tell them.
+"""Captions as the lines of a text tell them: read and written.
 
 A caption is a tuple: when it begins, when it ends, and the bytes that it says, as a tuple.
 """
@@ -91,3 +91,32 @@ def read_text(text):
                 return (captions, number)
             captions.append(caption)
     return (captions, 0)
+
+
+def write_time(time):
+    """The nine bytes that tell a time."""
+    minutes = str(time // 60000).zfill(2)
+    seconds = str(time // 1000 % 60).zfill(2)
+    thousandths = str(time % 1000).zfill(3)
+    return [ord(sign) for sign in f"{minutes}:{seconds}.{thousandths}"]
+
+
+def write_said(captions):
+    """What the captions say, a line each."""
+    text = []
+    for caption in captions:
+        text.extend(caption[2])
+        text.append(LINE_END)
+    return text
+
+
+def write_text(captions):
+    """The text that tells these captions, a line each."""
+    text = []
+    for caption in captions:
+        text.extend(write_time(caption[0]))
+        text.append(BLANK)
+        text.extend(write_time(caption[1]))
+        text.append(BLANK)
+        text.extend(write_said([caption]))
+    return text
